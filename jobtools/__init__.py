@@ -1,0 +1,1 @@
+"""Jobs and tools: which tools are worth having for the jobs there are."""

@@ -1,7 +1,7 @@
 """The calls that change a shop. Each gives back the list of its answers."""
 
 from jobtools.limits import HIGHEST_PRICE, JOBS_FULL, MOST_JOBS, MOST_TOOLS, NOT_TAKEN, NO_SUCH_JOB
-from jobtools.toolsets import is_set
+from jobtools.toolsets import is_set, is_tool
 
 
 def tell_tools(shop, costs):
@@ -48,7 +48,7 @@ def set_pay(shop, numbers):
 def set_cost(shop, numbers):
     tool = numbers[0]
     cost = numbers[1]
-    if tool == 0 or tool > len(shop.costs) or cost > HIGHEST_PRICE:
+    if not is_tool(shop.costs, tool) or cost > HIGHEST_PRICE:
         return [NOT_TAKEN]
     shop.costs[tool - 1] = cost
     return [0]

@@ -3,6 +3,8 @@
 MOST_TOOLS = 5
 MOST_JOBS = 5
 HIGHEST_PRICE = 1000
+# Of the two numbers of a factor.
+HIGHEST_TERM = 1000
 
 NOT_TAKEN = -1
 NO_SUCH_JOB = -2

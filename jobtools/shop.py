@@ -7,7 +7,7 @@ from jobtools.state import Shop
 # The one call with a row: how many numbers it has stands in the list itself.
 TOOLS = 0
 # How many numbers stand behind each other call, by the call's number.
-NUMBERS = {1: 2, 2: 1, 3: 2, 4: 2, 5: 0, 6: 1}
+NUMBERS = {1: 2, 2: 1, 3: 2, 4: 2, 5: 0, 6: 1, 7: 2, 8: 0, 9: 1, 10: 1, 11: 1, 12: 1, 13: 0}
 
 
 def first_number(calls, place):

@@ -5,8 +5,21 @@ def how_many_sets(costs):
     return 1 << len(costs)
 
 
+def all_sets(costs):
+    """Every set of these tools, the lowest number first."""
+    return list(range(how_many_sets(costs)))
+
+
 def is_set(costs, tools):
     return tools < how_many_sets(costs)
+
+
+def is_tool(costs, tool):
+    return tool > 0 and tool <= len(costs)
+
+
+def set_of_one(tool):
+    return 1 << (tool - 1)
 
 
 def has_all(tools, needs):

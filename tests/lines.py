@@ -5,6 +5,8 @@ from jobtools.shop import answers
 TOP = 4294967295
 
 BEST = [5]
+STEPS = [8]
+JOBS = [13]
 
 
 def tools(*costs):
@@ -31,6 +33,26 @@ def look(tools_set):
     return [6, tools_set]
 
 
+def times(above, below):
+    return [7, above, below]
+
+
+def lacks(number):
+    return [9, number]
+
+
+def spare(tool):
+    return [10, tool]
+
+
+def money(much):
+    return [11, much]
+
+
+def shares(tools_set):
+    return [12, tools_set]
+
+
 def joined(calls):
     return [number for call in calls for number in call]
 
@@ -54,3 +76,17 @@ def asked(*calls):
 
 def last(*calls):
     return asked(*calls)[-1]
+
+
+# Asks for all that a shop keeps: costs one by one, jobs, and (by a new job's number) which number comes next.
+def everything(many):
+    return [JOBS, BEST] + [look(1 << place) for place in range(many)] + [job(1, 1), JOBS]
+
+
+class AllAsItWas:
+    """For a test case: that behind a refused call a shop answers as if the call had not been there."""
+
+    def check_refused(self, line, many, wrong, refusal):
+        told = asked(*line, wrong, *everything(many))
+        self.assertEqual(told.pop(len(line)), [refusal], wrong)
+        self.assertEqual(told, asked(*line, *everything(many)), wrong)

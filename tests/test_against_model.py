@@ -1,138 +1,115 @@
-"""Many lines, answered again by a second way that follows the words: sets of tools are Python's sets."""
+"""Many lines with all fourteen calls, answered again by the model."""
 
 import itertools
 import random
 import unittest
 
-from tests.lines import BEST, TOP, asked, cost, gone, job, look, pay, tools
+from jobtools.shop import answers
+from tests.lines import (BEST, JOBS, STEPS, TOP, asked, cost, gone, job, joined, lacks, look, money, pay, shares, spare,
+                         split, times, tools)
+from tests.model import Model
+
+# The calls that are never refused.
+ALWAYS = (5, 8, 11, 13)
 
 
-def as_number(chosen):
-    return sum(2 ** (tool - 1) for tool in chosen)
+class Writer:
+    """Writes one line, with numbers mostly as they may be, and often such that sets leave as much."""
 
+    def __init__(self, source):
+        self.source = source
+        self.many = 1
+        self.high = source.choice((1, 3, 10, 30, 1000))
+        self.wrong = source.choice((0, 0.05, 0.3))
 
-class Model:
-    def __init__(self):
-        self.costs = {1: 0}
-        self.jobs = []
-        self.ever = 0
+    def price(self):
+        if self.source.random() < self.wrong:
+            return self.source.choice((999, 1000, 1001, TOP))
+        return self.source.randint(0, self.high)
 
-    def all_sets(self):
-        names = sorted(self.costs)
-        return [set(some) for many in range(len(names) + 1) for some in itertools.combinations(names, many)]
+    def one_of(self, low, high):
+        if self.source.random() < self.wrong:
+            return self.source.choice((low - 1, high + 1, TOP) if low > 0 else (high + 1, TOP))
+        return self.source.randint(low, high)
 
-    def find_set(self, number):
-        found = [chosen for chosen in self.all_sets() if as_number(chosen) == number]
-        return found[0] if found else None
+    def tools(self):
+        many = self.source.choice((1, 2, 3, 4, 5, 5)) if self.source.random() >= self.wrong else (
+            self.source.choice((0, 5, 6, 10)))
+        costs = [self.price() for unused in range(many)]
+        if 1 <= many <= 5 and max(costs) <= 1000:
+            self.many = many
+        return tools(*costs)
 
-    def find_job(self, number):
-        found = [one for one in self.jobs if one["number"] == number]
-        return found[0] if found else None
+    def job(self):
+        return job(self.price(), self.one_of(1, 2 ** self.many - 1))
 
-    def done(self, chosen):
-        return [one for one in self.jobs if one["needs"] <= chosen]
+    def change(self):
+        return self.source.choice((
+            self.job,
+            self.job,
+            lambda: gone(self.one_of(1, 5)),
+            lambda: pay(self.one_of(1, 5), self.price()),
+            lambda: cost(self.one_of(1, self.many), self.price()),
+        ))()
 
-    def leaves(self, chosen):
-        return sum(one["pays"] for one in self.done(chosen)) - sum(self.costs[tool] for tool in chosen)
+    def question(self):
+        return self.source.choice((
+            lambda: BEST,
+            lambda: look(self.one_of(0, 2 ** self.many - 1)),
+            lambda: times(self.one_of(0, 12), self.one_of(1, 12)),
+            lambda: times(self.one_of(0, 1000), self.one_of(1, 1000)),
+            lambda: STEPS,
+            lambda: lacks(self.one_of(1, 5)),
+            lambda: spare(self.one_of(1, self.many)),
+            lambda: money(self.one_of(0, self.source.choice((1, 2, 5)) * self.high)),
+            lambda: shares(self.one_of(0, 2 ** self.many - 1)),
+            lambda: shares(2 ** self.many - 1),
+            lambda: JOBS,
+        ))()
 
-    def tools(self, many, *costs):
-        if many not in (1, 2, 3, 4, 5) or any(price > 1000 for price in costs):
-            return [-1]
-        self.costs = {tool: price for tool, price in enumerate(costs, 1)}
-        self.jobs = []
-        self.ever = 0
-        return [many]
-
-    def job(self, pays, needs):
-        if pays > 1000 or not self.find_set(needs):
-            return [-1]
-        if len(self.jobs) == 5:
-            return [-5]
-        self.ever += 1
-        self.jobs.append({"number": self.ever, "pays": pays, "needs": self.find_set(needs)})
-        return [self.ever]
-
-    def gone(self, number):
-        if self.find_job(number) is None:
-            return [-2]
-        self.jobs.remove(self.find_job(number))
-        return [len(self.jobs)]
-
-    def pay(self, number, price):
-        if price > 1000:
-            return [-1]
-        if self.find_job(number) is None:
-            return [-2]
-        self.find_job(number)["pays"] = price
-        return [0]
-
-    def cost(self, tool, price):
-        if tool not in self.costs or price > 1000:
-            return [-1]
-        self.costs[tool] = price
-        return [0]
-
-    def best(self):
-        most = max(self.leaves(chosen) for chosen in self.all_sets())
-        worth = [chosen for chosen in self.all_sets() if self.leaves(chosen) == most]
-        least = set.intersection(*worth)
-        greatest = set.union(*worth)
-        assert least in worth and greatest in worth
-        return [most, len(worth), as_number(least), as_number(greatest)]
-
-    def look(self, number):
-        chosen = self.find_set(number)
-        if chosen is None:
-            return [-1]
-        numbers = sorted(one["number"] for one in self.done(chosen))
-        return [0, self.leaves(chosen), sum(self.costs[tool] for tool in chosen), len(numbers), *numbers]
-
-    def answer(self, call):
-        names = ("tools", "job", "gone", "pay", "cost", "best", "look")
-        return getattr(self, names[call[0]])(*call[1:])
-
-
-def any_price(source, low):
-    return source.choice((source.randint(0, low), source.randint(0, low), source.randint(0, 1000), 1000, 1001, TOP))
-
-
-def small_price(source, low):
-    return source.randint(0, low)
-
-
-def any_call(source, price, low):
-    return source.choice((
-        lambda: job(price(source, low), source.randint(0, 33)),
-        lambda: job(price(source, low), source.randint(1, 7)),
-        lambda: job(price(source, low), source.randint(1, 31)),
-        lambda: gone(source.randint(0, 7)),
-        lambda: pay(source.randint(0, 7), price(source, low)),
-        lambda: cost(source.randint(0, 6), price(source, low)),
-        lambda: BEST,
-        lambda: BEST,
-        lambda: look(source.choice((source.randint(0, 32), source.randint(0, 7), TOP))),
-    ))()
-
-
-def any_line(source):
-    price = source.choice((any_price, small_price))
-    low = source.choice((1, 3, 10, 1000))
-    calls = []
-    for step in range(source.randint(1, 40)):
-        if source.random() < (0.5 if step == 0 else 0.04):
-            calls.append(tools(*[small_price(source, low) for unused in range(source.randint(0, 6))]))
-        else:
-            calls.append(any_call(source, price, low))
-    return calls
+    def line(self):
+        calls = [self.tools()] if self.source.random() < 0.9 else []
+        calls += [self.job() for unused in range(self.source.randint(0, 5))]
+        for unused in range(self.source.randint(1, 40 - len(calls))):
+            chance = self.source.random()
+            calls.append(self.tools() if chance < 0.03 else self.change() if chance < 0.35 else self.question())
+        return calls
 
 
 class AgainstModel(unittest.TestCase):
     def test_many_lines(self):
         source = random.Random(20)
-        for unused in range(600):
-            calls = any_line(source)
+        answered = {}
+        refused = {}
+        for unused in range(800):
+            calls = Writer(source).line()
             model = Model()
-            self.assertEqual(asked(*calls), [model.answer(call) for call in calls], calls)
+            modelled = [model.answer(call) for call in calls]
+            self.check_line(joined(calls), modelled)
+            for call, told in zip(calls, modelled):
+                into = refused if told[0] < 0 else answered
+                into[call[0]] = into.get(call[0], 0) + 1
+        # So that the lines are known to reach each call, and each that can be refused both ways.
+        for call in range(14):
+            self.assertGreater(answered[call], 300, call)
+            self.assertEqual(refused.get(call, 0) > 50, call not in ALWAYS, call)
+
+    def check_line(self, calls, modelled):
+        self.assertLessEqual(len(calls), 500)
+        handed_in = list(calls)
+        told = answers(handed_in)
+        self.assertEqual(split(told), modelled, calls)
+        self.assertEqual(handed_in, calls)
+        self.assertEqual(answers(handed_in), told, calls)
+
+    def test_all_small_shops(self):
+        questions = [BEST, STEPS, lacks(1), lacks(2), spare(1), spare(2), times(1, 1), times(1, 2), times(2, 1)]
+        questions += [call(number) for call in (look, shares, money) for number in range(4)]
+        for costs in itertools.product(range(3), repeat=2):
+            for first, second in itertools.product(itertools.product(range(3), range(1, 4)), repeat=2):
+                calls = [tools(*costs), job(*first), job(*second), *questions]
+                model = Model()
+                self.assertEqual(asked(*calls), [model.answer(call) for call in calls], calls)
 
 
 if __name__ == "__main__":

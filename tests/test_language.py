@@ -73,6 +73,22 @@ class Language(unittest.TestCase):
         for node, where in self.each(ast.arg):
             self.assertFalse(hasattr(builtins, node.arg), where)
 
+    def test_assignments(self):
+        for node, where in self.each(ast.Assign):
+            self.assertEqual(len(node.targets), 1, where)
+            self.assertNotIsInstance(node.targets[0], (ast.Tuple, ast.List), where)
+
+    def test_names_of_imports_are_not_used_otherwise(self):
+        for path in FILES:
+            found = nodes(path)
+            drawn = {name.name for node in found if isinstance(node, ast.ImportFrom) for name in node.names}
+            bound = {node.id for node in found if isinstance(node, ast.Name) and isinstance(node.ctx, ast.Store)}
+            bound |= {node.arg for node in found if isinstance(node, ast.arg)}
+            bound |= {node.name for node in found if isinstance(node, (ast.FunctionDef, ast.ClassDef))}
+            self.assertEqual(drawn & bound, set(), path.name)
+            used = {node.id for node in found if isinstance(node, ast.Name) and isinstance(node.ctx, ast.Load)}
+            self.assertEqual(drawn - used, set(), path.name)
+
     def test_methods(self):
         for node, where in self.each(ast.Attribute):
             if node.attr in PYTHONS_METHODS:

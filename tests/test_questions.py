@@ -1,8 +1,8 @@
-"""The calls best and look (look's refusal is of promise 2)."""
+"""The calls best, look and jobs (look's refusal is of promise 2)."""
 
 import unittest
 
-from tests.lines import BEST, TOP, asked, cost, gone, job, last, look, pay, tools
+from tests.lines import BEST, JOBS, TOP, asked, cost, gone, job, last, look, pay, tools
 
 
 class Best(unittest.TestCase):
@@ -100,6 +100,40 @@ class Look(unittest.TestCase):
     def test_refused_leaves_all_as_it_was(self):
         told = asked(tools(3, 4), job(10, 1), look(4), look(3), job(7, 2))
         self.assertEqual(told[2:], [[-1], [0, 3, 7, 1, 1], [2]])
+
+
+class Jobs(unittest.TestCase):
+    def test_none(self):
+        self.assertEqual(last(JOBS), [0])
+        self.assertEqual(last(tools(5, 6), JOBS), [0])
+
+    def test_number_pay_and_needs_in_order(self):
+        line = [tools(5, 6, 7), job(100, 7), job(0, 1), job(1000, 2)]
+        self.assertEqual(last(*line, JOBS), [3, 1, 100, 7, 2, 0, 1, 3, 1000, 2])
+
+    def test_five(self):
+        line = [tools(*[1] * 5)] + [job(9 - place, 16 >> place) for place in range(5)]
+        self.assertEqual(last(*line, job(1, 1), JOBS), [5, 1, 9, 16, 2, 8, 8, 3, 7, 4, 4, 6, 2, 5, 5, 1])
+
+    def test_behind_gone(self):
+        line = [tools(5, 6), job(10, 1), job(20, 2), job(30, 3)]
+        self.assertEqual(last(*line, gone(2), JOBS), [2, 1, 10, 1, 3, 30, 3])
+        self.assertEqual(last(*line, gone(1), job(40, 1), JOBS), [3, 2, 20, 2, 3, 30, 3, 4, 40, 1])
+        self.assertEqual(last(*line, gone(3), gone(1), gone(2), JOBS), [0])
+
+    def test_behind_pay(self):
+        line = [tools(5, 6), job(10, 1), job(20, 2)]
+        self.assertEqual(last(*line, pay(1, 99), JOBS), [2, 1, 99, 1, 2, 20, 2])
+        self.assertEqual(last(*line, pay(2, 0), pay(2, 1001), JOBS), [2, 1, 10, 1, 2, 0, 2])
+
+    def test_behind_tools_and_cost(self):
+        self.assertEqual(last(tools(5, 6), job(10, 3), cost(1, 9), JOBS), [1, 1, 10, 3])
+        self.assertEqual(last(tools(5, 6), job(10, 3), tools(), JOBS), [1, 1, 10, 3])
+        self.assertEqual(last(tools(5, 6), job(10, 3), tools(5, 6), JOBS), [0])
+
+    def test_changes_nothing(self):
+        self.assertEqual(asked(job(3, 1), JOBS, JOBS, job(4, 1), JOBS),
+                         [[1], [1, 1, 3, 1], [1, 1, 3, 1], [2], [2, 1, 3, 1, 2, 4, 1]])
 
 
 if __name__ == "__main__":
